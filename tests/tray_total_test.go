@@ -1,0 +1,215 @@
+package tests
+
+import (
+	"fmt"
+	"math"
+	"reflect"
+	"slices"
+	"strings"
+	"testing"
+
+	"loop.example/g01199/impl"
+)
+
+// The tests of promise 11 for chapter 1: every function accepts all arguments without panicking and modifies none of them.
+
+func chapterOne() map[string]any {
+	return map[string]any{
+		"IsTray": impl.IsTray, "SizeOf": impl.SizeOf, "CellAt": impl.CellAt, "PutAt": impl.PutAt,
+		"CountCells": impl.CountCells, "BallsOf": impl.BallsOf, "PlaceOf": impl.PlaceOf,
+		"TurnTray": impl.TurnTray, "MirrorTray": impl.MirrorTray, "TransposeTray": impl.TransposeTray,
+		"LeastTray": impl.LeastTray, "KeepersOf": impl.KeepersOf, "PartsOf": impl.PartsOf,
+		"WayBetween": impl.WayBetween, "EmptyTray": impl.EmptyTray, "WallsOf": impl.WallsOf,
+		"CropTray": impl.CropTray, "JoinTrays": impl.JoinTrays, "BesideTrays": impl.BesideTrays,
+	}
+}
+
+// call returns the results of a call, the last of which is always a bool in this chapter.
+func call(function any, arguments ...any) ([]any, bool) {
+	var in []reflect.Value
+	for _, argument := range arguments {
+		in = append(in, reflect.ValueOf(argument))
+	}
+	var out []any
+	for _, result := range reflect.ValueOf(function).Call(in) {
+		out = append(out, result.Interface())
+	}
+	return out[:len(out)-1], out[len(out)-1].(bool)
+}
+
+func failsWithZeros(t *testing.T, name string, arguments ...any) {
+	t.Helper()
+	results, ok := call(chapterOne()[name], arguments...)
+	if ok {
+		t.Errorf("%s%q succeeds with %v", name, arguments, results)
+	}
+	for _, result := range results {
+		v := reflect.ValueOf(result)
+		if !(v.IsZero() || v.Kind() == reflect.Slice && v.Len() == 0) {
+			t.Errorf("%s%q fails with %v", name, arguments, results)
+		}
+	}
+}
+
+func TestTextsThatAreNoTraysFail(t *testing.T) {
+	for _, s := range notTrays() {
+		for _, name := range []string{
+			"IsTray", "SizeOf", "BallsOf", "TurnTray", "MirrorTray", "TransposeTray", "LeastTray",
+			"KeepersOf", "PartsOf", "WallsOf", "CropTray",
+		} {
+			failsWithZeros(t, name, s)
+		}
+		failsWithZeros(t, "CellAt", s, 0, 0)
+		failsWithZeros(t, "PutAt", s, 0, 0, "b")
+		failsWithZeros(t, "CountCells", s, ".")
+		failsWithZeros(t, "PlaceOf", s, "a")
+		failsWithZeros(t, "WayBetween", s, 0, 0)
+		for _, other := range []string{".", "..", ".../...", "./.", "", s} {
+			failsWithZeros(t, "JoinTrays", s, other)
+			failsWithZeros(t, "JoinTrays", other, s)
+			failsWithZeros(t, "BesideTrays", s, other)
+			failsWithZeros(t, "BesideTrays", other, s)
+		}
+	}
+}
+
+func TestInvalidTextDoesNotBecomeATray(t *testing.T) {
+	failsWithZeros(t, "PutAt", "g", 0, 0, ".")
+	failsWithZeros(t, "PutAt", "aa", 0, 0, ".")
+	failsWithZeros(t, "PutAt", "./..", 0, 0, ".")
+	failsWithZeros(t, "BesideTrays", "./..", "../.")
+	failsWithZeros(t, "BesideTrays", "", ".")
+	failsWithZeros(t, "BesideTrays", "./", "./.")
+}
+
+func TestCellsThatThereAreNotFail(t *testing.T) {
+	const s = ".#./ao."
+	for _, place := range [][2]int{
+		{-1, 0}, {0, -1}, {3, 0}, {0, 2}, {3, 2}, {-1, 1}, {3, -1}, {-3, 1}, {1, -1}, {2, 2}, {4, 1},
+		{math.MaxInt, 0}, {0, math.MaxInt}, {math.MinInt, 0}, {0, math.MinInt}, {math.MaxInt, math.MaxInt},
+		{math.MinInt, math.MaxInt}, {0, 1 << 62}, {1 << 32, 1 << 32},
+	} {
+		failsWithZeros(t, "CellAt", s, place[0], place[1])
+		failsWithZeros(t, "PutAt", s, place[0], place[1], "#")
+	}
+	for _, n := range []int{-1, -2, 6, 7, 36, math.MaxInt, math.MinInt, 1 << 32} {
+		failsWithZeros(t, "WayBetween", s, n, 0)
+		failsWithZeros(t, "WayBetween", s, 0, n)
+		failsWithZeros(t, "WayBetween", s, n, n)
+	}
+}
+
+func TestTextsOfNoCellFail(t *testing.T) {
+	for _, cell := range []string{"", "g", "A", "/", "..", "#.", "ab", ".#.oabcdef", "\x00", " ", "é", "o/", "abcdef", "/."} {
+		failsWithZeros(t, "PutAt", "..", 0, 0, cell)
+		failsWithZeros(t, "CountCells", "..", cell)
+		failsWithZeros(t, "PlaceOf", "ab.o#", cell)
+	}
+	for _, name := range []string{"o", ".", "#", "c", "f"} {
+		failsWithZeros(t, "PlaceOf", "ab.o#", name)
+	}
+}
+
+func TestTraysOfWallsAloneAreNotCropped(t *testing.T) {
+	for _, s := range []string{"#", "##", "#/#", "###/###/###", strings.ReplaceAll(freeText(6, 6), ".", "#")} {
+		failsWithZeros(t, "CropTray", s)
+	}
+}
+
+// TestAllArgumentsAreAccepted calls each function with every combination of awkward values: a panic ends the test.
+func TestAllArgumentsAreAccepted(t *testing.T) {
+	texts := []any{"", ".", "a", "#", "/", "g", "\x00", "é", ".#/ao", "aa", freeText(6, 6), freeText(7, 7), strings.Repeat("#/", 5000)}
+	numbers := []any{0, 1, -1, 7, 35, 36, math.MaxInt, math.MinInt, math.MinInt + 1, 1 << 32}
+	for name, function := range chapterOne() {
+		kind := reflect.TypeOf(function)
+		lists := [][]any{nil}
+		for i := range kind.NumIn() {
+			values := texts
+			if kind.In(i).Kind() == reflect.Int {
+				values = numbers
+			}
+			var longer [][]any
+			for _, list := range lists {
+				for _, v := range values {
+					longer = append(longer, append(slices.Clone(list), v))
+				}
+			}
+			lists = longer
+		}
+		for _, list := range lists {
+			if _, ok := call(function, list...); !ok {
+				failsWithZeros(t, name, list...)
+			}
+		}
+	}
+}
+
+func TestArgumentsStayAsTheyAre(t *testing.T) {
+	for _, s := range greatTrays() {
+		before := strings.Clone(s)
+		for name, function := range chapterOne() {
+			list := argumentsFor(name, function, s)
+			first, firstOk := call(function, list...)
+			want := fmt.Sprint(first, firstOk)
+			spoil(first)
+			second, secondOk := call(function, list...)
+			if got := fmt.Sprint(second, secondOk); got != want {
+				t.Errorf("%s%q: %s, then %s", name, list, want, got)
+			}
+		}
+		if s != before {
+			t.Errorf("%q becomes %q", before, s)
+		}
+	}
+}
+
+// argumentsFor gives a tray for each text but those of cells, and 0 for each number.
+func argumentsFor(name string, function any, tray string) []any {
+	var list []any
+	kind := reflect.TypeOf(function)
+	for i := range kind.NumIn() {
+		if kind.In(i).Kind() == reflect.Int {
+			list = append(list, 0)
+		} else {
+			list = append(list, tray)
+		}
+	}
+	if name == "PutAt" || name == "CountCells" || name == "PlaceOf" {
+		list[len(list)-1] = "a"
+	}
+	return list
+}
+
+// spoil overwrites lists of a result, and what would follow them.
+func spoil(results []any) {
+	for _, result := range results {
+		switch list := result.(type) {
+		case []int:
+			for n := range list {
+				list[n] = -7
+			}
+			_ = append(list, -7, -7)
+		case [][]int:
+			for _, inner := range list {
+				spoil([]any{inner})
+			}
+		}
+	}
+}
+
+func TestPartsShareNoMemory(t *testing.T) {
+	const s = "..#.#a/##.#o#/..#.#."
+	want, _ := impl.PartsOf(s)
+	for i := range want {
+		parts, ok := impl.PartsOf(s)
+		if !ok || len(parts) < 5 {
+			t.Fatalf("PartsOf is %v, %v", parts, ok)
+		}
+		spoil([]any{parts[i]})
+		for j := range parts {
+			if j != i && !slices.Equal(parts[j], want[j]) {
+				t.Errorf("part %d changes with part %d: %v", j, i, parts[j])
+			}
+		}
+	}
+}
