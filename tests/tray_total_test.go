@@ -2,6 +2,7 @@ package tests
 
 import (
 	"fmt"
+	"maps"
 	"math"
 	"reflect"
 	"slices"
@@ -11,7 +12,15 @@ import (
 	"loop.example/g01199/impl"
 )
 
-// The tests of promise 11 for chapter 1: every function accepts all arguments without panicking and modifies none of them.
+// The tests of promise 11: every function accepts all arguments without panicking and modifies none of them.
+// Those for chapter 1 alone, and those that go over all functions.
+
+func allFunctions() map[string]any {
+	functions := map[string]any{}
+	maps.Copy(functions, chapterOne())
+	maps.Copy(functions, chapterTwo())
+	return functions
+}
 
 func chapterOne() map[string]any {
 	return map[string]any{
@@ -24,7 +33,7 @@ func chapterOne() map[string]any {
 	}
 }
 
-// call returns the results of a call, the last of which is always a bool in this chapter.
+// call returns the results of a call, the last of which is always a bool in these chapters.
 func call(function any, arguments ...any) ([]any, bool) {
 	var in []reflect.Value
 	for _, argument := range arguments {
@@ -39,7 +48,7 @@ func call(function any, arguments ...any) ([]any, bool) {
 
 func failsWithZeros(t *testing.T, name string, arguments ...any) {
 	t.Helper()
-	results, ok := call(chapterOne()[name], arguments...)
+	results, ok := call(allFunctions()[name], arguments...)
 	if ok {
 		t.Errorf("%s%q succeeds with %v", name, arguments, results)
 	}
@@ -118,9 +127,12 @@ func TestTraysOfWallsAloneAreNotCropped(t *testing.T) {
 
 // TestAllArgumentsAreAccepted calls each function with every combination of awkward values: a panic ends the test.
 func TestAllArgumentsAreAccepted(t *testing.T) {
-	texts := []any{"", ".", "a", "#", "/", "g", "\x00", "é", ".#/ao", "aa", freeText(6, 6), freeText(7, 7), strings.Repeat("#/", 5000)}
+	texts := []any{
+		"", ".", "a", "#", "/", "g", "\x00", "é", ".#/ao", "aa", freeText(6, 6), freeText(7, 7), strings.Repeat("#/", 5000),
+		"u", "l", "urdl", "urx", strings.Repeat("r", 40), strings.Repeat("d", 41),
+	}
 	numbers := []any{0, 1, -1, 7, 35, 36, math.MaxInt, math.MinInt, math.MinInt + 1, 1 << 32}
-	for name, function := range chapterOne() {
+	for name, function := range allFunctions() {
 		kind := reflect.TypeOf(function)
 		lists := [][]any{nil}
 		for i := range kind.NumIn() {
@@ -147,7 +159,7 @@ func TestAllArgumentsAreAccepted(t *testing.T) {
 func TestArgumentsStayAsTheyAre(t *testing.T) {
 	for _, s := range greatTrays() {
 		before := strings.Clone(s)
-		for name, function := range chapterOne() {
+		for name, function := range allFunctions() {
 			list := argumentsFor(name, function, s)
 			first, firstOk := call(function, list...)
 			want := fmt.Sprint(first, firstOk)
@@ -163,7 +175,7 @@ func TestArgumentsStayAsTheyAre(t *testing.T) {
 	}
 }
 
-// argumentsFor gives a tray for each text but those of cells, and 0 for each number.
+// argumentsFor gives a tray for each text but those of cells, names, directions and words, and 0 for each number.
 func argumentsFor(name string, function any, tray string) []any {
 	var list []any
 	kind := reflect.TypeOf(function)
@@ -174,8 +186,20 @@ func argumentsFor(name string, function any, tray string) []any {
 			list = append(list, tray)
 		}
 	}
-	if name == "PutAt" || name == "CountCells" || name == "PlaceOf" {
+	switch name {
+	case "PutAt", "CountCells", "PlaceOf":
 		list[len(list)-1] = "a"
+	case "PathOfBall":
+		return []any{tray, "a", "rdlu"}
+	case "AreSameWords":
+		return []any{tray, "rdlu", "rd"}
+	case "TurnWord":
+		return []any{"rdlu", 3}
+	case "ShortWord", "OppositeWord", "IsWord":
+		return []any{"rdlu"}
+	}
+	if _, isTilt := chapterTwo()[name]; isTilt && len(list) == 2 {
+		return []any{tray, "r"}
 	}
 	return list
 }
