@@ -19,6 +19,7 @@ func allFunctions() map[string]any {
 	functions := map[string]any{}
 	maps.Copy(functions, chapterOne())
 	maps.Copy(functions, chapterTwo())
+	maps.Copy(functions, chapterThree())
 	return functions
 }
 
@@ -187,8 +188,10 @@ func argumentsFor(name string, function any, tray string) []any {
 		}
 	}
 	switch name {
-	case "PutAt", "CountCells", "PlaceOf":
+	case "PutAt", "CountCells", "PlaceOf", "CellsOfBall":
 		list[len(list)-1] = "a"
+	case "WordToCell":
+		return []any{tray, "a", 0}
 	case "PathOfBall":
 		return []any{tray, "a", "rdlu"}
 	case "AreSameWords":
@@ -214,6 +217,15 @@ func spoil(results []any) {
 			}
 			_ = append(list, -7, -7)
 		case [][]int:
+			for _, inner := range list {
+				spoil([]any{inner})
+			}
+		case []string:
+			for n := range list {
+				list[n] = "spoilt"
+			}
+			_ = append(list, "spoilt", "spoilt")
+		case [][]string:
 			for _, inner := range list {
 				spoil([]any{inner})
 			}
