@@ -20,6 +20,7 @@ func allFunctions() map[string]any {
 	maps.Copy(functions, chapterOne())
 	maps.Copy(functions, chapterTwo())
 	maps.Copy(functions, chapterThree())
+	maps.Copy(functions, chapterFour())
 	return functions
 }
 
@@ -126,24 +127,33 @@ func TestTraysOfWallsAloneAreNotCropped(t *testing.T) {
 	}
 }
 
+// awkwardValues are valid and invalid arguments of a type.
+func awkwardValues(kind reflect.Type) []any {
+	switch kind {
+	case reflect.TypeFor[int]():
+		return []any{0, 1, 3, -1, 7, 35, 36, math.MaxInt, math.MinInt, math.MinInt + 1, 1 << 32}
+	case reflect.TypeFor[impl.Board]():
+		boards := []any{boardFrom("0"), boardFrom("12/03"), boardFrom("123/405/678")}
+		for _, b := range notBoards() {
+			boards = append(boards, b)
+		}
+		return boards
+	}
+	return []any{
+		"", ".", "a", "#", "/", "g", "\x00", "é", ".#/ao", "aa", freeText(6, 6), freeText(7, 7), strings.Repeat("#/", 5000),
+		"u", "l", "urdl", "urx", strings.Repeat("r", 40), strings.Repeat("d", 41), "0", "1,2/0,3",
+	}
+}
+
 // TestAllArgumentsAreAccepted calls each function with every combination of awkward values: a panic ends the test.
 func TestAllArgumentsAreAccepted(t *testing.T) {
-	texts := []any{
-		"", ".", "a", "#", "/", "g", "\x00", "é", ".#/ao", "aa", freeText(6, 6), freeText(7, 7), strings.Repeat("#/", 5000),
-		"u", "l", "urdl", "urx", strings.Repeat("r", 40), strings.Repeat("d", 41),
-	}
-	numbers := []any{0, 1, -1, 7, 35, 36, math.MaxInt, math.MinInt, math.MinInt + 1, 1 << 32}
 	for name, function := range allFunctions() {
 		kind := reflect.TypeOf(function)
 		lists := [][]any{nil}
 		for i := range kind.NumIn() {
-			values := texts
-			if kind.In(i).Kind() == reflect.Int {
-				values = numbers
-			}
 			var longer [][]any
 			for _, list := range lists {
-				for _, v := range values {
+				for _, v := range awkwardValues(kind.In(i)) {
 					longer = append(longer, append(slices.Clone(list), v))
 				}
 			}
@@ -162,12 +172,16 @@ func TestArgumentsStayAsTheyAre(t *testing.T) {
 		before := strings.Clone(s)
 		for name, function := range allFunctions() {
 			list := argumentsFor(name, function, s)
+			given := fmt.Sprint(list)
 			first, firstOk := call(function, list...)
 			want := fmt.Sprint(first, firstOk)
 			spoil(first)
 			second, secondOk := call(function, list...)
 			if got := fmt.Sprint(second, secondOk); got != want {
 				t.Errorf("%s%q: %s, then %s", name, list, want, got)
+			}
+			if got := fmt.Sprint(list); got != given {
+				t.Errorf("%s: the arguments %s become %s", name, given, got)
 			}
 		}
 		if s != before {
@@ -176,18 +190,27 @@ func TestArgumentsStayAsTheyAre(t *testing.T) {
 	}
 }
 
-// argumentsFor gives a tray for each text but those of cells, names, directions and words, and 0 for each number.
+// argumentsFor gives a tray for each text but those of cells, names, directions and words, 0 for each number but the sizes of boards, and a board for each board.
 func argumentsFor(name string, function any, tray string) []any {
 	var list []any
 	kind := reflect.TypeOf(function)
 	for i := range kind.NumIn() {
-		if kind.In(i).Kind() == reflect.Int {
+		switch kind.In(i) {
+		case reflect.TypeFor[int]():
 			list = append(list, 0)
-		} else {
+		case reflect.TypeFor[impl.Board]():
+			list = append(list, boardFrom("123/405"))
+		default:
 			list = append(list, tray)
 		}
 	}
 	switch name {
+	case "SolvedBoard", "CountBoards", "HardestBoards":
+		return []any{2, 3}
+	case "MoveHole", "MoveByWord":
+		list[1] = "r"
+	case "ParseBoard":
+		return []any{"1,2/0,3"}
 	case "PutAt", "CountCells", "PlaceOf", "CellsOfBall":
 		list[len(list)-1] = "a"
 	case "WordToCell":
@@ -226,6 +249,12 @@ func spoil(results []any) {
 			}
 			_ = append(list, "spoilt", "spoilt")
 		case [][]string:
+			for _, inner := range list {
+				spoil([]any{inner})
+			}
+		case impl.Board:
+			spoil([]any{list.Cells})
+		case []impl.Board:
 			for _, inner := range list {
 				spoil([]any{inner})
 			}
