@@ -21,6 +21,7 @@ func allFunctions() map[string]any {
 	maps.Copy(functions, chapterTwo())
 	maps.Copy(functions, chapterThree())
 	maps.Copy(functions, chapterFour())
+	maps.Copy(functions, chapterFive())
 	return functions
 }
 
@@ -141,7 +142,7 @@ func awkwardValues(kind reflect.Type) []any {
 	}
 	return []any{
 		"", ".", "a", "#", "/", "g", "\x00", "é", ".#/ao", "aa", freeText(6, 6), freeText(7, 7), strings.Repeat("#/", 5000),
-		"u", "l", "urdl", "urx", strings.Repeat("r", 40), strings.Repeat("d", 41), "0", "1,2/0,3",
+		"o", "oo./..a", "o/o", "u", "l", "urdl", "urx", strings.Repeat("r", 40), strings.Repeat("d", 41), "0", "1,2/0,3",
 	}
 }
 
@@ -190,7 +191,7 @@ func TestArgumentsStayAsTheyAre(t *testing.T) {
 	}
 }
 
-// argumentsFor gives a tray for each text but those of cells, names, directions and words, 0 for each number but the sizes of boards, and a board for each board.
+// argumentsFor gives a tray for each text but those of cells, names, directions, words and shapes, 0 for each number but the sizes of boards and the cells of balls, and a board for each board.
 func argumentsFor(name string, function any, tray string) []any {
 	var list []any
 	kind := reflect.TypeOf(function)
@@ -215,6 +216,10 @@ func argumentsFor(name string, function any, tray string) []any {
 		list[len(list)-1] = "a"
 	case "WordToCell":
 		return []any{tray, "a", 0}
+	case "PieceAt", "ShapeOf":
+		return []any{tray, strings.IndexAny(strings.ReplaceAll(tray, "/", ""), "oabcdef")}
+	case "IsShapeReached":
+		return []any{tray, "o", "rd"}
 	case "PathOfBall":
 		return []any{tray, "a", "rdlu"}
 	case "AreSameWords":
@@ -224,7 +229,9 @@ func argumentsFor(name string, function any, tray string) []any {
 	case "ShortWord", "OppositeWord", "IsWord":
 		return []any{"rdlu"}
 	}
-	if _, isTilt := chapterTwo()[name]; isTilt && len(list) == 2 {
+	_, isTilt := chapterTwo()[name]
+	_, isStick := chapterFive()[name]
+	if (isTilt || isStick) && len(list) == 2 {
 		return []any{tray, "r"}
 	}
 	return list
