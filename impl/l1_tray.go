@@ -72,13 +72,7 @@ func BallsOf(t string) ([]int, bool) {
 	if !ok {
 		return nil, false
 	}
-	var balls []int
-	for n := range countAll(g) {
-		if isBall(g.cells[n]) {
-			balls = append(balls, n)
-		}
-	}
-	return balls, true
+	return ballsIn(g), true
 }
 
 // PlaceOf returns x and y of the ball with a name. It fails if there is none.
@@ -177,11 +171,7 @@ func EmptyTray(w int, h int) (string, bool) {
 	if !isSize(w, h) {
 		return "", false
 	}
-	g := grid{width: w, height: h}
-	for n := range countAll(g) {
-		g.cells[n] = free
-	}
-	return trayText(g), true
+	return trayText(filledGrid(w, h, free)), true
 }
 
 // WallsOf returns the tray with all balls taken out.
@@ -313,6 +303,24 @@ func isName(name string) bool {
 
 func isBall(cell byte) bool {
 	return cell != wall && cell != free
+}
+
+func ballsIn(g grid) []int {
+	var balls []int
+	for n := range countAll(g) {
+		if isBall(g.cells[n]) {
+			balls = append(balls, n)
+		}
+	}
+	return balls
+}
+
+func filledGrid(w int, h int, cell byte) grid {
+	g := grid{width: w, height: h}
+	for n := range countAll(g) {
+		g.cells[n] = cell
+	}
+	return g
 }
 
 func hasPlace(g grid, x int, y int) bool {

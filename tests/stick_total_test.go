@@ -2,6 +2,7 @@ package tests
 
 import (
 	"fmt"
+	"maps"
 	"math"
 	"runtime"
 	"slices"
@@ -137,10 +138,17 @@ func TestPiecesShareNoMemory(t *testing.T) {
 	}
 }
 
+// functionsWithGoroutines are those of the chapters in which something comes over channels.
+func functionsWithGoroutines() map[string]any {
+	functions := chapterFive()
+	maps.Copy(functions, chapterSix())
+	return functions
+}
+
 // TestCallsAtOnceAreToldAlike calls all functions from several goroutines, and compares what they tell with a call alone.
 func TestCallsAtOnceAreToldAlike(t *testing.T) {
 	for _, s := range knownSticks() {
-		for name, function := range chapterFive() {
+		for name, function := range functionsWithGoroutines() {
 			list := argumentsFor(name, function, s)
 			first, firstOk := call(function, list...)
 			want := fmt.Sprint(first, firstOk)
@@ -166,7 +174,7 @@ func TestCallsAtOnceAreToldAlike(t *testing.T) {
 func TestNoGoroutinesAreLeft(t *testing.T) {
 	before := runtime.NumGoroutine()
 	for _, s := range append(knownSticks(), notShapes()...) {
-		for name, function := range chapterFive() {
+		for name, function := range functionsWithGoroutines() {
 			call(function, argumentsFor(name, function, s)...)
 		}
 	}

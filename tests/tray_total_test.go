@@ -22,6 +22,7 @@ func allFunctions() map[string]any {
 	maps.Copy(functions, chapterThree())
 	maps.Copy(functions, chapterFour())
 	maps.Copy(functions, chapterFive())
+	maps.Copy(functions, chapterSix())
 	return functions
 }
 
@@ -133,6 +134,12 @@ func awkwardValues(kind reflect.Type) []any {
 	switch kind {
 	case reflect.TypeFor[int]():
 		return []any{0, 1, 3, -1, 7, 35, 36, math.MaxInt, math.MinInt, math.MinInt + 1, 1 << 32}
+	case reflect.TypeFor[[]int]():
+		lists := []any{[]int(nil), []int{}, []int{0}, []int{0, 1}, []int{1, 0, 2}, []int{0, 0}, []int{3, 3, 3}}
+		for _, list := range notLists() {
+			lists = append(lists, list)
+		}
+		return lists
 	case reflect.TypeFor[impl.Board]():
 		boards := []any{boardFrom("0"), boardFrom("12/03"), boardFrom("123/405/678")}
 		for _, b := range notBoards() {
@@ -142,7 +149,7 @@ func awkwardValues(kind reflect.Type) []any {
 	}
 	return []any{
 		"", ".", "a", "#", "/", "g", "\x00", "é", ".#/ao", "aa", freeText(6, 6), freeText(7, 7), strings.Repeat("#/", 5000),
-		"o", "oo./..a", "o/o", "u", "l", "urdl", "urx", strings.Repeat("r", 40), strings.Repeat("d", 41), "0", "1,2/0,3",
+		"o", "oo./..a", "o/o", "oo./o..", "ooooo/ooooo", "u", "l", "urdl", "urx", strings.Repeat("r", 40), strings.Repeat("d", 41), "0", "1,2/0,3",
 	}
 }
 
@@ -191,8 +198,11 @@ func TestArgumentsStayAsTheyAre(t *testing.T) {
 	}
 }
 
-// argumentsFor gives a tray for each text but those of cells, names, directions, words and shapes, 0 for each number but the sizes of boards and the cells of balls, and a board for each board.
+// argumentsFor gives a tray for each text but those of cells, names, directions, words, shapes and forms, 0 for each number but the sizes of boards and the cells of balls, and a board for each board.
 func argumentsFor(name string, function any, tray string) []any {
+	if _, isBuild := chapterSix()[name]; isBuild {
+		return argumentsToBuild(name)
+	}
 	var list []any
 	kind := reflect.TypeOf(function)
 	for i := range kind.NumIn() {
