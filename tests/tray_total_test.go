@@ -23,6 +23,7 @@ func allFunctions() map[string]any {
 	maps.Copy(functions, chapterFour())
 	maps.Copy(functions, chapterFive())
 	maps.Copy(functions, chapterSix())
+	maps.Copy(functions, chapterSeven())
 	return functions
 }
 
@@ -56,6 +57,11 @@ func failsWithZeros(t *testing.T, name string, arguments ...any) {
 	if ok {
 		t.Errorf("%s%q succeeds with %v", name, arguments, results)
 	}
+	areZeros(t, name, arguments, results)
+}
+
+func areZeros(t *testing.T, name string, arguments, results []any) {
+	t.Helper()
 	for _, result := range results {
 		v := reflect.ValueOf(result)
 		if !(v.IsZero() || v.Kind() == reflect.Slice && v.Len() == 0) {
@@ -168,8 +174,8 @@ func TestAllArgumentsAreAccepted(t *testing.T) {
 			lists = longer
 		}
 		for _, list := range lists {
-			if _, ok := call(function, list...); !ok {
-				failsWithZeros(t, name, list...)
+			if results, ok := call(function, list...); !ok {
+				areZeros(t, name, list, results)
 			}
 		}
 	}
@@ -202,6 +208,9 @@ func TestArgumentsStayAsTheyAre(t *testing.T) {
 func argumentsFor(name string, function any, tray string) []any {
 	if _, isBuild := chapterSix()[name]; isBuild {
 		return argumentsToBuild(name)
+	}
+	if _, isMachine := chapterSeven()[name]; isMachine {
+		return argumentsOfMachines(name)
 	}
 	var list []any
 	kind := reflect.TypeOf(function)
