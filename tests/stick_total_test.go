@@ -142,6 +142,7 @@ func TestPiecesShareNoMemory(t *testing.T) {
 func functionsWithGoroutines() map[string]any {
 	functions := chapterFive()
 	maps.Copy(functions, chapterSix())
+	maps.Copy(functions, chapterEight())
 	return functions
 }
 

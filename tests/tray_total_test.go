@@ -24,6 +24,7 @@ func allFunctions() map[string]any {
 	maps.Copy(functions, chapterFive())
 	maps.Copy(functions, chapterSix())
 	maps.Copy(functions, chapterSeven())
+	maps.Copy(functions, chapterEight())
 	return functions
 }
 
@@ -211,6 +212,9 @@ func argumentsFor(name string, function any, tray string) []any {
 	}
 	if _, isMachine := chapterSeven()[name]; isMachine {
 		return argumentsOfMachines(name)
+	}
+	if _, isCount := chapterEight()[name]; isCount {
+		return argumentsToCount(name)
 	}
 	var list []any
 	kind := reflect.TypeOf(function)
