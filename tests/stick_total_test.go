@@ -143,6 +143,7 @@ func functionsWithGoroutines() map[string]any {
 	functions := chapterFive()
 	maps.Copy(functions, chapterSix())
 	maps.Copy(functions, chapterEight())
+	maps.Copy(functions, chapterNine())
 	return functions
 }
 

@@ -25,6 +25,7 @@ func allFunctions() map[string]any {
 	maps.Copy(functions, chapterSix())
 	maps.Copy(functions, chapterSeven())
 	maps.Copy(functions, chapterEight())
+	maps.Copy(functions, chapterNine())
 	return functions
 }
 
@@ -153,10 +154,16 @@ func awkwardValues(kind reflect.Type) []any {
 			boards = append(boards, b)
 		}
 		return boards
+	case reflect.TypeFor[impl.Puzzle]():
+		puzzles := []any{puzzleFrom("a./..:a:3"), puzzleFrom("a#.:a:2"), puzzleFrom(reachesMore + ":b:11")}
+		for _, p := range notPuzzles() {
+			puzzles = append(puzzles, p)
+		}
+		return puzzles
 	}
 	return []any{
 		"", ".", "a", "#", "/", "g", "\x00", "é", ".#/ao", "aa", freeText(6, 6), freeText(7, 7), strings.Repeat("#/", 5000),
-		"o", "oo./..a", "o/o", "oo./o..", "ooooo/ooooo", "u", "l", "urdl", "urx", strings.Repeat("r", 40), strings.Repeat("d", 41), "0", "1,2/0,3",
+		"o", "oo./..a", "o/o", "oo./o..", "ooooo/ooooo", "u", "l", "urdl", "urx", strings.Repeat("r", 40), strings.Repeat("d", 41), "0", "1,2/0,3", "a./..:a:3",
 	}
 }
 
@@ -215,6 +222,9 @@ func argumentsFor(name string, function any, tray string) []any {
 	}
 	if _, isCount := chapterEight()[name]; isCount {
 		return argumentsToCount(name)
+	}
+	if _, isPuzzle := chapterNine()[name]; isPuzzle {
+		return argumentsOfPuzzles(name)
 	}
 	var list []any
 	kind := reflect.TypeOf(function)
