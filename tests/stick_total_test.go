@@ -144,6 +144,7 @@ func functionsWithGoroutines() map[string]any {
 	maps.Copy(functions, chapterSix())
 	maps.Copy(functions, chapterEight())
 	maps.Copy(functions, chapterNine())
+	maps.Copy(functions, chapterTen())
 	return functions
 }
 

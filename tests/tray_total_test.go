@@ -26,6 +26,7 @@ func allFunctions() map[string]any {
 	maps.Copy(functions, chapterSeven())
 	maps.Copy(functions, chapterEight())
 	maps.Copy(functions, chapterNine())
+	maps.Copy(functions, chapterTen())
 	return functions
 }
 
@@ -160,10 +161,16 @@ func awkwardValues(kind reflect.Type) []any {
 			puzzles = append(puzzles, p)
 		}
 		return puzzles
+	case reflect.TypeFor[impl.Desk]():
+		desks := []any{impl.FirstDesk(), impl.Desk{Tray: "a./..", Done: strings.Repeat("ul", 20)}, impl.Desk{Tray: reachesMore}}
+		for _, d := range notDesks() {
+			desks = append(desks, d)
+		}
+		return desks
 	}
 	return []any{
 		"", ".", "a", "#", "/", "g", "\x00", "é", ".#/ao", "aa", freeText(6, 6), freeText(7, 7), strings.Repeat("#/", 5000),
-		"o", "oo./..a", "o/o", "oo./o..", "ooooo/ooooo", "u", "l", "urdl", "urx", strings.Repeat("r", 40), strings.Repeat("d", 41), "0", "1,2/0,3", "a./..:a:3",
+		"o", "oo./..a", "o/o", "oo./o..", "ooooo/ooooo", "u", "l", "urdl", "urx", strings.Repeat("r", 40), strings.Repeat("d", 41), "0", "1,2/0,3", "a./..:a:3", "tilt r\ndone\n", strings.Repeat("reach\n", 50),
 	}
 }
 
@@ -225,6 +232,9 @@ func argumentsFor(name string, function any, tray string) []any {
 	}
 	if _, isPuzzle := chapterNine()[name]; isPuzzle {
 		return argumentsOfPuzzles(name)
+	}
+	if _, isConsole := chapterTen()[name]; isConsole {
+		return argumentsOfConsole(name)
 	}
 	var list []any
 	kind := reflect.TypeOf(function)
